@@ -1,0 +1,1 @@
+"""Picks of things, numbered so that from each to the next one goes out and one comes in."""
