@@ -19,6 +19,10 @@ class Hostile:
     __class__ = property(_fail)
 
 
+# What is no row at all, of the kinds that the document names.
+NO_ROWS = [0, 1, 3, -1, HUGE, True, False, None, "", "0", "012", "0 1 2", "none", "abc", 0.0, 1.5, float("nan")]
+
+
 def nested_in_itself():
     row = [1]
     row.append(row)

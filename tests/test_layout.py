@@ -5,20 +5,32 @@ import inspect
 import pathlib
 import unittest
 
-from doorpicks import errors, picks
+from doorpicks import errors, kinds, picks, sets, texts
 
 PACKAGE = pathlib.Path(picks.__file__).parent
 ALLOWED = {"math": {"comb"}}
 LISTED = {
     errors: ["PickError", "NoBounds", "NoPick", "NoNumber", "NoChange", "NoText"],
     picks: ["Picks"],
+    sets: ["Sets"],
+    kinds: ["Kinds"],
+    texts: ["written", "read"],
 }
 METHODS = {
     picks.Picks: {
         "many": ["self"], "number": ["self", "one"], "at": ["self", "number"], "step": ["self", "one", "by"],
         "change": ["self", "pick"], "compared": ["self", "one", "other"], "__init__": ["self", "things", "size"],
     },
+    sets.Sets: {
+        "many": ["self"], "number": ["self", "one"], "at": ["self", "number"], "step": ["self", "one", "by"],
+        "change": ["self", "some"], "__init__": ["self", "things"],
+    },
+    kinds.Kinds: {
+        "many": ["self"], "number": ["self", "one"], "at": ["self", "number"],
+        "__init__": ["self", "counts", "size"],
+    },
 }
+FUNCTIONS = {texts.written: ["pick"], texts.read: ["text"]}
 
 
 def package_files():
@@ -40,6 +52,10 @@ class TestInterface(unittest.TestCase):
                 with self.subTest(name=name):
                     self.assertIn(name, vars(kind))
                     self.assertEqual(list(inspect.signature(vars(kind)[name]).parameters), arguments)
+
+    def test_each_function_takes_what_is_listed(self):
+        for function, arguments in FUNCTIONS.items():
+            self.assertEqual(list(inspect.signature(function).parameters), arguments)
 
 
 class TestPackage(unittest.TestCase):

@@ -4,9 +4,7 @@ import unittest
 
 from doorpicks.errors import NoNumber, NoPick
 from doorpicks.picks import Picks
-from helper import HUGE, assert_refused, nested_in_itself, no_whole_numbers
-
-NO_ROWS = [0, 1, 3, -1, HUGE, True, False, None, "", "0", "012", "0 1 2", "none", "abc", 0.0, 1.5, float("nan")]
+from helper import HUGE, NO_ROWS, assert_refused, nested_in_itself, no_whole_numbers
 
 # Of 3 things out of 5.
 NO_PICKS = [
